@@ -1,0 +1,1 @@
+"""Fewplaces: rows with many names, put onto few places and a shelf."""
