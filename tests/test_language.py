@@ -106,6 +106,16 @@ class Language(unittest.TestCase):
             if isinstance(node, ast.Call) and isinstance(node.func, ast.Attribute):
                 self.assertIn(node.func.attr, ALLOWED_METHODS | own | {"__init__"}, where)
 
+    def test_own_methods_and_values(self):
+        classes = [node for where, node in nodes() if isinstance(node, ast.ClassDef)]
+        methods = {part.name for node in classes for part in node.body if isinstance(part, ast.FunctionDef)}
+        values = {
+            node.attr for where, node in nodes() if isinstance(node, ast.Attribute) and isinstance(node.ctx, ast.Store)
+        }
+        python_s_own = {name for kind in (str, int, list, tuple, dict, set, bytes) for name in dir(kind)}
+        self.assertEqual(methods & values, set())
+        self.assertLessEqual((methods | values) & python_s_own, {"__init__"})
+
     def test_is_stands_beside_plain_values_alone(self):
         for where, node in nodes():
             if isinstance(node, ast.Compare) and any(isinstance(op, (ast.Is, ast.IsNot)) for op in node.ops):

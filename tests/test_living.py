@@ -1,72 +1,15 @@
-import copy
-import itertools
 import unittest
 
 from fewplaces.errors import NoValue, PlaceError
 from fewplaces.living import living, most_at_once
-
-REFUSED = {
-    "the only row tells": [("tell", "a")],
-    "another name is written": [("set", "a", 1), ("tell", "b")],
-    "the first of two names": [("set", "b", 1), ("add", "c", "a", "b")],
-    "the second of two names": [("set", "a", 1), ("sub", "c", "a", "b")],
-    "that same row writes it": [("mul", "a", "a", "a")],
-    "that same row writes it, the other is there": [("set", "b", 1), ("add", "a", "b", "a")],
-    "only a later row writes it": [("tell", "a"), ("set", "a", 1)],
-    "that row and a later one write it": [("add", "a", "a", "a"), ("take", "a"), ("tell", "a")],
-    "what the row writes is never used": [("set", "a", 1), ("add", "c", "a", "b"), ("tell", "a")],
-    "the empty name": [("set", " ", 1), ("tell", "")],
-    "a name that differs in one sign": [("set", "ab", 1), ("tell", "aB")],
-    "a name that differs by a blank": [("take", "a"), ("tell", "a ")],
-    "the last row of many": [("set", "a", 1)] * 120 + [("tell", "b")],
-}
-
-
-def uses(row):
-    return {"set": (), "take": (), "tell": row[1:]}.get(row[0], row[2:])
-
-
-def writes(row):
-    return () if row[0] == "tell" else row[1:2]
-
-
-# Point 4 word by word, to hold the program against.
-def needed_by_the_words(rows, at, name):
-    for later in range(at + 1, len(rows)):
-        between = rows[at + 1:later]
-        if name in uses(rows[later]) and not any(name in writes(row) for row in between):
-            return True
-    return False
-
-
-def living_by_the_words(rows):
-    names = sorted({name for row in rows for name in uses(row) + writes(row)})
-    return [[name for name in names if needed_by_the_words(rows, at, name)] for at in range(len(rows))]
-
-
-# Point 5 word by word.
-def most_by_the_words(rows):
-    at_once = [sorted(set(needed) | set(writes(row))) for row, needed in zip(rows, living_by_the_words(rows))]
-    most = max((len(names) for names in at_once), default=0)
-    if most == 0:
-        return (None, [])
-    return next((at, names) for at, names in enumerate(at_once) if len(names) == most)
-
-
-def refused_by_the_words(rows):
-    return any(
-        not any(name in writes(before) for before in rows[:at])
-        for at, row in enumerate(rows)
-        for name in uses(row)
-    )
-
-
-def every_short_list_of_rows(names, most):
-    kinds = [("set", name, 1) for name in names] + [("tell", name) for name in names]
-    kinds += [("sub",) + chosen for chosen in itertools.product(names, repeat=3)]
-    for length in range(most + 1):
-        for rows in itertools.product(kinds, repeat=length):
-            yield list(rows)
+from tests.cases import (
+    REFUSED,
+    every_short_list_of_rows,
+    leaves_as_they_were,
+    living_by_the_words,
+    most_by_the_words,
+    refused_by_the_words,
+)
 
 
 class Living(unittest.TestCase):
@@ -262,15 +205,8 @@ class HandedIn(unittest.TestCase):
             self.check_unchanged(rows)
 
     def check_unchanged(self, rows):
-        before = copy.deepcopy(rows)
-        tuples = list(rows)
         for asked in (living, most_at_once):
-            try:
-                asked(rows)
-            except NoValue:
-                pass
-            self.assertEqual(rows, before)
-            self.assertTrue(all(row is was for row, was in zip(rows, tuples)))
+            self.assertTrue(leaves_as_they_were(asked, rows), rows)
 
     def test_the_same_is_told_again_whatever_became_of_the_answer(self):
         rows = [("set", "a", 1), ("set", "b", 2), ("add", "c", "a", "b"), ("tell", "c")]
